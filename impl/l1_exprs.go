@@ -150,17 +150,30 @@ func validOpen(e Expr) bool {
 }
 
 func validWith(e Expr, known [MaxVars]bool) bool {
-	nodes := MaxNodes
-	return validPart(e, known, MaxDepth, &nodes)
+	return withinLimits(e) && validPart(e, known)
 }
 
-// validPart counts nodes and levels down on the way: what is too large is given
-// up as soon as the limits are passed, however large it is.
-func validPart(e Expr, known [MaxVars]bool, levels int, nodes *int) bool {
+func withinLimits(e Expr) bool {
+	nodes := MaxNodes
+	return small(e, MaxDepth, &nodes)
+}
+
+// small counts nodes and levels down on the way: what is too large is given up
+// as soon as the limits are passed, however large it is.
+func small(e Expr, levels int, nodes *int) bool {
 	*nodes--
 	if levels == 0 || *nodes < 0 {
 		return false
 	}
+	for _, kid := range e.Kids {
+		if !small(kid, levels-1, nodes) {
+			return false
+		}
+	}
+	return true
+}
+
+func validPart(e Expr, known [MaxVars]bool) bool {
 	f, ok := formOf(e.Op)
 	if !ok || !f.fits(e) || e.Op == OpVar && !known[e.N] {
 		return false
@@ -170,15 +183,50 @@ func validPart(e Expr, known [MaxVars]bool, levels int, nodes *int) bool {
 		if bindsIn(e, i) {
 			inner[e.N] = true
 		}
-		if !validPart(kid, inner, levels-1, nodes) {
+		if !validPart(kid, inner) {
 			return false
 		}
 	}
 	return true
 }
 
+// endless reports whether e contains itself, by a slice of Kids that is a part
+// of its own elements. Such a value has no number of nodes, and going through
+// them would not end; the functions below return zero values for it.
+func endless(e Expr) bool {
+	if withinLimits(e) {
+		return false
+	}
+	root := e
+	list := []*Expr{&root}
+	done := map[*Expr]bool{} // of each node that was reached: whether all in it was
+	for len(list) > 0 {
+		x := list[len(list)-1]
+		if _, reached := done[x]; reached {
+			done[x] = true
+			list = list[:len(list)-1]
+			continue
+		}
+		done[x] = false
+		for i := range x.Kids {
+			kid := &x.Kids[i]
+			over, reached := done[kid]
+			if reached && !over {
+				return true
+			}
+			if !reached {
+				list = append(list, kid)
+			}
+		}
+	}
+	return false
+}
+
 // ExprSame reports whether a and b are equal.
 func ExprSame(a Expr, b Expr) bool {
+	if endless(a) {
+		return false
+	}
 	// The pairs to come are kept in a list for the reason given at nodesOf.
 	pairs := [][2]Expr{{a, b}}
 	for len(pairs) > 0 {
@@ -373,10 +421,13 @@ func numberUpTo(text string, most int) (int, bool) {
 }
 
 // nodesOf goes through the nodes of e, without the operands for which hidden
-// holds. The nodes to come are kept in a list and not in calls within each
+// holds; through none if e is endless. The nodes to come are kept in a list and not in calls within each
 // other, since an invalid expression may be deeper than calls can be.
 func nodesOf(e Expr, hidden func(e Expr, i int) bool) iter.Seq[Expr] {
 	return func(yield func(Expr) bool) {
+		if endless(e) {
+			return
+		}
 		list := []Expr{e}
 		for len(list) > 0 {
 			x := list[len(list)-1]

@@ -1,6 +1,7 @@
 package tests
 
 import (
+	"runtime/debug"
 	"testing"
 
 	"loop.example/apimigrator/impl"
@@ -128,8 +129,61 @@ func TestPartsWithOtherNumbers(t *testing.T) {
 	wantInts(t, "CallsOf", impl.CallsOf(add(e, call(7))), 7)
 }
 
+// endlessExprs contain themselves: they have no last level.
+func endlessExprs() []impl.Expr {
+	one := make([]impl.Expr, 1)
+	one[0] = out(impl.Expr{Op: impl.OpOut, Kids: one})
+	two := make([]impl.Expr, 2)
+	two[0], two[1] = variable(0), impl.Expr{Op: impl.OpAdd, Kids: two}
+	both := make([]impl.Expr, 2)
+	both[0] = impl.Expr{Op: impl.OpLet, Kids: both}
+	both[1] = impl.Expr{Op: impl.OpCall, Kids: both}
+	far := chain(1000)
+	last := far
+	for len(last.Kids[0].Kids) > 0 {
+		last = last.Kids[0]
+	}
+	last.Kids[0] = far
+	return []impl.Expr{one[0], two[1], both[0], both[1], far, call(0, num(1), far), call(0, far, num(1))}
+}
+
+func TestEndlessExprs(t *testing.T) {
+	for i, e := range endlessExprs() {
+		if impl.ExprValid(e, allVars) || impl.FormatExpr(e) != "" {
+			t.Errorf("the endless expression %d is valid", i)
+		}
+		if impl.ExprSame(e, e) || impl.ExprSame(e, num(1)) || impl.ExprSame(out(num(1)), e) {
+			t.Errorf("the endless expression %d is the same", i)
+		}
+		if impl.SizeOf(e) != 0 || impl.CountVar(e, 0) != 0 || len(impl.FreeVars(e)) != 0 || len(impl.CallsOf(e)) != 0 {
+			t.Errorf("the endless expression %d has parts", i)
+		}
+	}
+}
+
+// One slice may stand in an expression many times without an end being missing.
+func TestSharedPartsCountEachTime(t *testing.T) {
+	e := add(variable(0), call(3))
+	for range 10 {
+		e = add(e, e)
+	}
+	if n := impl.SizeOf(e); n != 4*1024-1 {
+		t.Errorf("SizeOf = %d", n)
+	}
+	if n := impl.CountVar(e, 0); n != 1024 {
+		t.Errorf("CountVar = %d", n)
+	}
+	wantInts(t, "FreeVars", impl.FreeVars(e), 0)
+	wantInts(t, "CallsOf", impl.CallsOf(e), 3)
+	if !impl.ExprSame(e, cloned(e)) || impl.ExprSame(e, add(e, e)) {
+		t.Error("an expression with shared parts is not compared")
+	}
+}
+
+// With a small stack, calls within each other would not get to the end of it.
 func TestPartsOfLargeExprs(t *testing.T) {
-	const depth = 5000000
+	defer debug.SetMaxStack(debug.SetMaxStack(1 << 20))
+	const depth = 200000
 	e := chain(depth)
 	if n := impl.SizeOf(e); n != depth {
 		t.Errorf("SizeOf = %d", n)

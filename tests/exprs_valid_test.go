@@ -82,16 +82,6 @@ func TestValidExprsAtTheLimits(t *testing.T) {
 	}
 }
 
-// The memory of this expression contains itself: it has no last level.
-func TestEndlessExprIsInvalid(t *testing.T) {
-	kids := make([]impl.Expr, 2)
-	e := impl.Expr{Op: impl.OpAdd, Kids: kids}
-	kids[0], kids[1] = e, e
-	if impl.ExprValid(e, allVars) || impl.FormatExpr(e) != "" {
-		t.Error("an endless expression is valid")
-	}
-}
-
 func TestScopes(t *testing.T) {
 	cases := []struct {
 		text  string
