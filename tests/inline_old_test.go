@@ -45,15 +45,21 @@ func TestInlineOldFuns(t *testing.T) {
 // are called: the least one goes, and all before it come.
 const countingLibrary = "A0~1\nB0~A()\nC0~(A()+B())\nD0~(A()+(B()+C()))\nE0~((A()+B())+(C()+D()))\n"
 
+// countingExpr calls the functions that the digits of n say.
+func countingExpr(n int) impl.Expr {
+	e := num(0)
+	for f := range 5 {
+		if n>>f&1 == 1 {
+			e = add(e, call(f))
+		}
+	}
+	return e
+}
+
 func TestInlineOldTimes(t *testing.T) {
 	lib := libraryOf(t, countingLibrary)
 	for n := range 32 {
-		e := num(0)
-		for f := range 5 {
-			if n>>f&1 == 1 {
-				e = add(e, call(f))
-			}
-		}
+		e := countingExpr(n)
 		text := textOf(e)
 		if n > 20 {
 			wantOld(t, lib, text, -1, "")

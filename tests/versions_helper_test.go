@@ -150,7 +150,11 @@ func aritiesAfter(r *rand.Rand, lib []impl.Def) map[int]int {
 
 // nextVersion keeps the Bodies of lib that still fit, but for some of them.
 func nextVersion(r *rand.Rand, lib []impl.Def) []impl.Def {
-	arities := aritiesAfter(r, lib)
+	return versionWith(r, lib, aritiesAfter(r, lib))
+}
+
+// versionWith is nextVersion for the functions that it is to have.
+func versionWith(r *rand.Rand, lib []impl.Def, arities map[int]int) []impl.Def {
 	var next []impl.Def
 	for f := range impl.MaxFuns {
 		arity, ok := arities[f]
