@@ -34,11 +34,7 @@ func notKeptByRule(a, b []impl.Def, e impl.Expr) []int {
 
 // isClientOf is for a valid library.
 func isClientOf(lib []impl.Def, e impl.Expr) bool {
-	arities := map[int]int{}
-	for _, d := range lib {
-		arities[d.Name] = d.Arity
-	}
-	return len(freeIn(e)) == 0 && nodesIn(e) <= impl.MaxNodes && levelsOf(e) <= impl.MaxDepth && wantedCalls(e, arities)
+	return len(freeIn(e)) == 0 && nodesIn(e) <= impl.MaxNodes && levelsOf(e) <= impl.MaxDepth && fitsByRule(lib, e)
 }
 
 // migratedByRule is the rule of the document for valid versions and a client of the first one.
